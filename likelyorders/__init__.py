@@ -1,0 +1,1 @@
+"""What an order makes likely."""

@@ -1,0 +1,103 @@
+"""-22, alone in the list, where n or o isn't as it must be; and the longest o, refused or not."""
+
+import unittest
+
+from likelyorders.chances import first, rows
+from tests.trial import MOST, REFUSED, has_ring, orders_to_try, rows_by_trial, told
+
+IN_ONE_ROW = told([(one, other) for one in range(6) for other in range(one + 1, 6)])
+
+
+class Refusals(unittest.TestCase):
+    def assert_refused(self, n, o):
+        for call in (rows, first):
+            answer = call(n, o)
+            self.assertEqual(answer, REFUSED, (call, n, o))
+            self.assertIs(type(answer), list)
+
+    def test_n(self):
+        for n in (0, 7, 8, 40, MOST - 1, MOST):
+            for o in ([], [0, 1], [0], [0, 0]):
+                self.assert_refused(n, o)
+
+    def test_odd_count(self):
+        for n in range(1, 7):
+            self.assert_refused(n, [0])
+        self.assert_refused(3, [0, 1, 2])
+        self.assert_refused(3, [0, 1, 0])
+        self.assert_refused(6, [0, 1, 1, 2, 3])
+        self.assert_refused(6, [0, 1] * 19 + [0])
+
+    def test_thing_with_itself(self):
+        for n in range(1, 7):
+            for thing in range(n):
+                self.assert_refused(n, [thing, thing])
+        self.assert_refused(4, [0, 1, 2, 2])
+        self.assert_refused(4, [2, 2, 0, 1])
+        self.assert_refused(4, [0, 1, 3, 3, 1, 2])
+
+    def test_thing_that_there_is_not(self):
+        for n in range(1, 7):
+            for missing in (n, n + 1, MOST):
+                self.assert_refused(n, [0, missing])
+                self.assert_refused(n, [missing, 0])
+        self.assert_refused(3, [0, 1, 1, 3])
+        self.assert_refused(3, [3, 1, 0, 1])
+        self.assert_refused(3, [0, 1, MOST, 2, 1, 2])
+        self.assert_refused(6, [MOST, MOST])
+        self.assert_refused(6, [6, MOST])
+
+    def test_ring_of_two(self):
+        self.assert_refused(2, [0, 1, 1, 0])
+        self.assert_refused(6, [5, 2, 2, 5])
+
+    def test_longer_rings(self):
+        self.assert_refused(3, [0, 1, 1, 2, 2, 0])
+        self.assert_refused(4, [2, 0, 3, 1, 0, 3, 1, 2])
+        self.assert_refused(6, [0, 1, 1, 2, 2, 3, 3, 4, 4, 5, 5, 0])
+
+    def test_ring_beside_pairs_that_are_well(self):
+        self.assert_refused(4, [0, 1, 2, 3, 3, 2])
+        self.assert_refused(4, [2, 3, 3, 2, 0, 1])
+        self.assert_refused(6, [0, 1, 3, 4, 1, 2, 4, 5, 5, 3])
+        self.assert_refused(6, [0, 1, 1, 2, 2, 3, 3, 4, 4, 5, 5, 4])
+
+    def test_every_ring_is_refused_and_nothing_else(self):
+        for n, o in orders_to_try():
+            for call in (rows, first):
+                self.assertEqual(call(n, o) == REFUSED, has_ring(n, o), (call, n, o))
+
+
+class TheLongest(unittest.TestCase):
+    def assert_answered(self, n, o):
+        self.assertEqual(len(o), 40)
+        found = rows_by_trial(n, o)
+        self.assertEqual(rows(n, o), [len(found)])
+        self.assertEqual(first(n, o), [n] + list(found[0]))
+
+    def assert_refused(self, n, o):
+        self.assertEqual(len(o), 40)
+        self.assertEqual(rows(n, o), REFUSED)
+        self.assertEqual(first(n, o), REFUSED)
+
+    def test_answered_where_its_pairs_are_well(self):
+        self.assert_answered(2, [1, 0] * 20)
+        self.assert_answered(6, [4, 1] * 20)
+        self.assert_answered(6, [5, 0, 3, 2] * 10)
+        self.assert_answered(6, IN_ONE_ROW + IN_ONE_ROW[:10])
+        self.assert_answered(6, [0, 1] * 19 + [5, 2])
+        self.assert_answered(6, [5, 2] + [0, 1] * 19)
+
+    def test_refused_where_they_are_not(self):
+        well = [0, 1] * 19
+        for bad in ([1, 0], [2, 2], [0, 6], [6, 0], [MOST, 1], [1, MOST]):
+            self.assert_refused(6, well + bad)
+            self.assert_refused(6, bad + well)
+        self.assert_refused(6, IN_ONE_ROW + [0, 1] * 4 + [5, 0])
+        self.assert_refused(1, [0, 0] * 20)
+        self.assert_refused(0, well + [0, 1])
+        self.assert_refused(7, well + [0, 1])
+
+
+if __name__ == "__main__":
+    unittest.main()
