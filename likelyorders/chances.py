@@ -1,6 +1,8 @@
 """The calls: what an order of a few things makes likely."""
 
 ORDER_REFUSED = -22
+THING_REFUSED = -2
+NONE_THERE = -33
 MOST_THINGS = 6
 
 
@@ -18,6 +20,26 @@ def first(n, o):
     if len(found) == 0:
         return [ORDER_REFUSED]
     return [n] + found[0]
+
+
+def nth(n, k, o):
+    """n, then row k, counted from 0."""
+    found = find_rows(n, o)
+    if len(found) == 0:
+        return [ORDER_REFUSED]
+    if k >= len(found):
+        return [NONE_THERE]
+    return [n] + found[k]
+
+
+def likely(n, x, y, o):
+    """0, then how likely x is ahead of y, a fraction."""
+    found = find_rows(n, o)
+    if len(found) == 0:
+        return [ORDER_REFUSED]
+    if not are_different_things(n, [x, y]):
+        return [THING_REFUSED]
+    return [0] + in_lowest_terms(count_ahead(found, x, y), len(found))
 
 
 def find_rows(n, o):
@@ -60,3 +82,27 @@ def may_come_next(thing, row, o):
         if o[k + 1] == thing and o[k] not in row:
             return False
     return True
+
+
+def are_different_things(n, chosen):
+    """Whether the chosen are all things that there are, no two of them one."""
+    for thing in chosen:
+        if thing >= n or chosen.count(thing) > 1:
+            return False
+    return True
+
+
+def count_ahead(found, x, y):
+    """In how many of the found rows x is ahead of y."""
+    return len([row for row in found if row.index(x) < row.index(y)])
+
+
+def in_lowest_terms(above, below):
+    """The fraction above by below as two numbers with nothing in common; below is more than 0."""
+    shared = below
+    rest = above
+    while rest > 0:
+        left = shared % rest
+        shared = rest
+        rest = left
+    return [above // shared, below // shared]

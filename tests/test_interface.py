@@ -2,16 +2,17 @@
 
 import ast
 import contextlib
+import inspect
 import io
 import pathlib
 import unittest
 
 import likelyorders
 from likelyorders import chances
-from likelyorders.chances import first, rows
+from likelyorders.chances import first, likely, nth, rows
 from tests.trial import MOST, Untouchable
 
-HANDED_IN = (
+ORDERS = (
     (1, []),
     (3, [2, 0]),
     (4, [2, 1, 0, 3, 2, 1]),
@@ -26,6 +27,21 @@ HANDED_IN = (
     (6, [0, 1] * 19 + [1, 0]),
 )
 
+# Each call with the numbers that stand between n and o, answered and refused.
+CALLS = (
+    (rows, ()),
+    (first, ()),
+    (nth, (0,)),
+    (nth, (2,)),
+    (nth, (MOST,)),
+    (likely, (0, 1)),
+    (likely, (2, 1)),
+    (likely, (0, 0)),
+    (likely, (0, MOST)),
+)
+
+HANDED_IN = [(call, (n,) + numbers, o) for call, numbers in CALLS for n, o in ORDERS]
+
 # Python's own names that the program may use; those that print or read are not among them.
 ALLOWED_NAMES = set(
     "len range enumerate zip min max sum abs sorted reversed int str bool list tuple dict set frozenset isinstance "
@@ -35,47 +51,59 @@ ALLOWED_NAMES = set(
 
 class HandedIn(unittest.TestCase):
     def test_stays_as_it_was(self):
-        for n, o in HANDED_IN:
-            for call in (rows, first):
-                given = list(o)
-                call(n, given)
-                self.assertEqual(given, o)
+        for call, numbers, o in HANDED_IN:
+            given = list(o)
+            call(*numbers, given)
+            self.assertEqual(given, o, (call, numbers))
 
     def test_is_not_changed_for_a_while_either(self):
-        for n, o in HANDED_IN:
-            for call in (rows, first):
-                self.assertEqual(call(n, Untouchable(o)), call(n, list(o)))
+        for call, numbers, o in HANDED_IN:
+            self.assertEqual(call(*numbers, Untouchable(o)), call(*numbers, list(o)), (call, numbers, o))
 
     def test_arguments_have_their_names(self):
         self.assertEqual(rows(n=3, o=[2, 0]), [3])
         self.assertEqual(first(n=3, o=[2, 0]), [3, 1, 2, 0])
+        self.assertEqual(nth(n=3, k=2, o=[2, 0]), [3, 2, 1, 0])
+        self.assertEqual(likely(n=3, x=2, y=1, o=[2, 0]), [0, 2, 3])
+
+    def test_arguments_stand_in_their_turn(self):
+        for call, names in ((rows, "no"), (first, "no"), (nth, "nko"), (likely, "nxyo")):
+            self.assertEqual(list(inspect.signature(call).parameters), list(names))
+
+
+class Answers(unittest.TestCase):
+    def test_a_refusal_stands_alone_and_nothing_else_is_below_0(self):
+        for call, numbers, o in HANDED_IN:
+            answer = call(*numbers, o)
+            self.assertGreaterEqual(len(answer), 1)
+            if min(answer) < 0:
+                self.assertIn(answer, ([-22], [-2], [-33]), (call, numbers, o))
 
 
 class NothingIsKept(unittest.TestCase):
     def test_second_call_answers_as_the_first_did(self):
-        for call in (rows, first):
-            for n, o in HANDED_IN:
-                self.assertEqual(call(n, o), call(n, o))
+        for call, numbers, o in HANDED_IN:
+            self.assertEqual(call(*numbers, o), call(*numbers, o), (call, numbers, o))
 
     def test_other_calls_between_change_nothing(self):
-        for call in (rows, first):
-            before = [call(n, list(o)) for n, o in HANDED_IN]
-            after = [call(n, list(o)) for n, o in reversed(HANDED_IN)]
-            self.assertEqual(before, after[::-1])
+        before = [call(*numbers, list(o)) for call, numbers, o in HANDED_IN]
+        after = [call(*numbers, list(o)) for call, numbers, o in reversed(HANDED_IN)]
+        self.assertEqual(before, after[::-1])
 
     def test_the_same_list_with_other_numbers_is_answered_anew(self):
         o = [0, 1]
         self.assertEqual((rows(3, o), first(3, o)), ([3], [3, 0, 1, 2]))
+        self.assertEqual((nth(3, 1, o), likely(3, 2, 0, o)), ([3, 0, 2, 1], [0, 1, 3]))
         o.extend([2, 0])
         self.assertEqual((rows(3, o), first(3, o)), ([1], [3, 2, 0, 1]))
+        self.assertEqual((nth(3, 1, o), likely(3, 2, 0, o)), ([-33], [0, 1, 1]))
 
     def test_changing_an_answer_changes_no_later_one(self):
-        for call in (rows, first):
-            for n, o in HANDED_IN:
-                answer = call(n, o)
-                kept = list(answer)
-                answer.clear()
-                self.assertEqual(call(n, o), kept)
+        for call, numbers, o in HANDED_IN:
+            answer = call(*numbers, o)
+            kept = list(answer)
+            answer.clear()
+            self.assertEqual(call(*numbers, o), kept, (call, numbers, o))
 
 
 class NothingElseIsDone(unittest.TestCase):
@@ -86,9 +114,8 @@ class NothingElseIsDone(unittest.TestCase):
     def test_nothing_is_printed(self):
         out, err = io.StringIO(), io.StringIO()
         with contextlib.redirect_stdout(out), contextlib.redirect_stderr(err):
-            for n, o in HANDED_IN:
-                rows(n, o)
-                first(n, o)
+            for call, numbers, o in HANDED_IN:
+                call(*numbers, o)
         self.assertEqual((out.getvalue(), err.getvalue()), ("", ""))
 
     def test_nothing_is_imported(self):
@@ -106,7 +133,9 @@ class NothingElseIsDone(unittest.TestCase):
             self.assertEqual(used - bound - ALLOWED_NAMES, set())
 
     def test_the_calls_are_functions_of_chances(self):
-        self.assertEqual((chances.rows.__module__, chances.first.__module__), ("likelyorders.chances",) * 2)
+        for call, name in ((rows, "rows"), (first, "first"), (nth, "nth"), (likely, "likely")):
+            self.assertIs(getattr(chances, name), call)
+            self.assertEqual(call.__module__, "likelyorders.chances")
 
 
 if __name__ == "__main__":

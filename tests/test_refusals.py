@@ -2,17 +2,32 @@
 
 import unittest
 
-from likelyorders.chances import first, rows
+from likelyorders.chances import first, likely, nth, rows
 from tests.trial import MOST, REFUSED, has_ring, orders_to_try, rows_by_trial, told
 
 IN_ONE_ROW = told([(one, other) for one in range(6) for other in range(one + 1, 6)])
 
+# Each call with the numbers that stand between n and o: such as are well, and such as would be refused in turn.
+CALLS = (
+    (rows, ()),
+    (first, ()),
+    (nth, (0,)),
+    (nth, (720,)),
+    (nth, (MOST,)),
+    (likely, (0, 1)),
+    (likely, (1, 0)),
+    (likely, (0, 0)),
+    (likely, (6, 0)),
+    (likely, (0, MOST)),
+    (likely, (MOST, MOST)),
+)
+
 
 class Refusals(unittest.TestCase):
     def assert_refused(self, n, o):
-        for call in (rows, first):
-            answer = call(n, o)
-            self.assertEqual(answer, REFUSED, (call, n, o))
+        for call, numbers in CALLS:
+            answer = call(n, *numbers, o)
+            self.assertEqual(answer, REFUSED, (call, n, numbers, o))
             self.assertIs(type(answer), list)
 
     def test_n(self):
@@ -64,8 +79,9 @@ class Refusals(unittest.TestCase):
 
     def test_every_ring_is_refused_and_nothing_else(self):
         for n, o in orders_to_try():
-            for call in (rows, first):
-                self.assertEqual(call(n, o) == REFUSED, has_ring(n, o), (call, n, o))
+            ring = has_ring(n, o)
+            for call, numbers in CALLS:
+                self.assertEqual(call(n, *numbers, o) == REFUSED, ring, (call, n, numbers, o))
 
 
 class TheLongest(unittest.TestCase):
@@ -74,11 +90,14 @@ class TheLongest(unittest.TestCase):
         found = rows_by_trial(n, o)
         self.assertEqual(rows(n, o), [len(found)])
         self.assertEqual(first(n, o), [n] + list(found[0]))
+        self.assertEqual(nth(n, len(found) - 1, o), [n] + list(found[-1]))
+        self.assertEqual(likely(n, o[0], o[1], o), [0, 1, 1])
+        self.assertEqual(likely(n, o[-1], o[-2], o), [0, 0, 1])
 
     def assert_refused(self, n, o):
         self.assertEqual(len(o), 40)
-        self.assertEqual(rows(n, o), REFUSED)
-        self.assertEqual(first(n, o), REFUSED)
+        for call, numbers in CALLS:
+            self.assertEqual(call(n, *numbers, o), REFUSED, (call, n, numbers, o))
 
     def test_answered_where_its_pairs_are_well(self):
         self.assert_answered(2, [1, 0] * 20)

@@ -3,6 +3,8 @@
 from itertools import combinations, permutations
 
 REFUSED = [-22]
+THING_REFUSED = [-2]
+NONE_THERE = [-33]
 MOST = 4294967295
 
 
@@ -80,6 +82,21 @@ def orders_to_try():
         yield 6, o
     for o in ringless_orders(6, 41):
         yield 6, o
+
+
+def ordinary_orders():
+    """(n, o) for orders of every n, all without a ring; few enough to go through all things of each."""
+    for n in range(1, 4):
+        for o in every_order(n):
+            if not has_ring(n, o):
+                yield n, o
+    for n, most in ((4, 3), (5, 2)):
+        for o in small_orders(n, most):
+            if not has_ring(n, o):
+                yield n, o
+    for n, step in ((4, 3), (5, 31), (6, 1001)):
+        for o in ringless_orders(n, step):
+            yield n, o
 
 
 class Untouchable(list):
