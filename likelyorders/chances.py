@@ -39,7 +39,30 @@ def likely(n, x, y, o):
         return [ORDER_REFUSED]
     if not are_different_things(n, [x, y]):
         return [THING_REFUSED]
-    return [0] + in_lowest_terms(count_ahead(found, x, y), len(found))
+    return [0] + in_lowest_terms(len(with_ahead(found, x, y)), len(found))
+
+
+def both(n, x, y, z, o):
+    """In how many rows x is ahead of y and of z; then in how many ahead of y, of z, and how many rows there are."""
+    found = find_rows(n, o)
+    if len(found) == 0:
+        return [ORDER_REFUSED]
+    if not are_different_things(n, [x, y, z]):
+        return [THING_REFUSED]
+    ahead_of_y = with_ahead(found, x, y)
+    ahead_of_z = with_ahead(found, x, z)
+    ahead_of_both = with_ahead(ahead_of_y, x, z)
+    return [len(ahead_of_both), len(ahead_of_y), len(ahead_of_z), len(found)]
+
+
+def places(n, x, o):
+    """n, then in how many rows x is at each place."""
+    found = find_rows(n, o)
+    if len(found) == 0:
+        return [ORDER_REFUSED]
+    if not are_different_things(n, [x]):
+        return [THING_REFUSED]
+    return [n] + [count_at(found, x, place) for place in range(n)]
 
 
 def find_rows(n, o):
@@ -92,9 +115,14 @@ def are_different_things(n, chosen):
     return True
 
 
-def count_ahead(found, x, y):
-    """In how many of the found rows x is ahead of y."""
-    return len([row for row in found if row.index(x) < row.index(y)])
+def with_ahead(found, x, y):
+    """Those of the found rows in which x is ahead of y."""
+    return [row for row in found if row.index(x) < row.index(y)]
+
+
+def count_at(found, x, place):
+    """In how many of the found rows x is at that place."""
+    return len([row for row in found if row[place] == x])
 
 
 def in_lowest_terms(above, below):

@@ -9,7 +9,7 @@ import unittest
 
 import likelyorders
 from likelyorders import chances
-from likelyorders.chances import first, likely, nth, rows
+from likelyorders.chances import both, first, likely, nth, places, rows
 from tests.trial import MOST, Untouchable
 
 ORDERS = (
@@ -38,6 +38,13 @@ CALLS = (
     (likely, (2, 1)),
     (likely, (0, 0)),
     (likely, (0, MOST)),
+    (both, (0, 1, 2)),
+    (both, (2, 0, 1)),
+    (both, (0, 1, 1)),
+    (both, (0, 1, MOST)),
+    (places, (0,)),
+    (places, (2,)),
+    (places, (MOST,)),
 )
 
 HANDED_IN = [(call, (n,) + numbers, o) for call, numbers in CALLS for n, o in ORDERS]
@@ -65,9 +72,12 @@ class HandedIn(unittest.TestCase):
         self.assertEqual(first(n=3, o=[2, 0]), [3, 1, 2, 0])
         self.assertEqual(nth(n=3, k=2, o=[2, 0]), [3, 2, 1, 0])
         self.assertEqual(likely(n=3, x=2, y=1, o=[2, 0]), [0, 2, 3])
+        self.assertEqual(both(n=3, x=2, y=1, z=0, o=[2, 0]), [2, 2, 3, 3])
+        self.assertEqual(places(n=3, x=2, o=[2, 0]), [3, 2, 1, 0])
 
     def test_arguments_stand_in_their_turn(self):
-        for call, names in ((rows, "no"), (first, "no"), (nth, "nko"), (likely, "nxyo")):
+        turns = ((rows, "no"), (first, "no"), (nth, "nko"), (likely, "nxyo"), (both, "nxyzo"), (places, "nxo"))
+        for call, names in turns:
             self.assertEqual(list(inspect.signature(call).parameters), list(names))
 
 
@@ -94,9 +104,11 @@ class NothingIsKept(unittest.TestCase):
         o = [0, 1]
         self.assertEqual((rows(3, o), first(3, o)), ([3], [3, 0, 1, 2]))
         self.assertEqual((nth(3, 1, o), likely(3, 2, 0, o)), ([3, 0, 2, 1], [0, 1, 3]))
+        self.assertEqual((both(3, 2, 0, 1, o), places(3, 2, o)), ([1, 1, 2, 3], [3, 1, 1, 1]))
         o.extend([2, 0])
         self.assertEqual((rows(3, o), first(3, o)), ([1], [3, 2, 0, 1]))
         self.assertEqual((nth(3, 1, o), likely(3, 2, 0, o)), ([-33], [0, 1, 1]))
+        self.assertEqual((both(3, 2, 0, 1, o), places(3, 2, o)), ([1, 1, 1, 1], [3, 1, 0, 0]))
 
     def test_changing_an_answer_changes_no_later_one(self):
         for call, numbers, o in HANDED_IN:
@@ -133,8 +145,8 @@ class NothingElseIsDone(unittest.TestCase):
             self.assertEqual(used - bound - ALLOWED_NAMES, set())
 
     def test_the_calls_are_functions_of_chances(self):
-        for call, name in ((rows, "rows"), (first, "first"), (nth, "nth"), (likely, "likely")):
-            self.assertIs(getattr(chances, name), call)
+        for call in (rows, first, nth, likely, both, places):
+            self.assertIs(getattr(chances, call.__name__), call)
             self.assertEqual(call.__module__, "likelyorders.chances")
 
 

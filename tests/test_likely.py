@@ -6,7 +6,9 @@ from fractions import Fraction
 
 from likelyorders.chances import likely, rows
 from tests.trial import (
+    IN_ONE_ROW,
     MOST,
+    ONE_ROW,
     REFUSED,
     THING_REFUSED,
     all_pairs,
@@ -17,8 +19,6 @@ from tests.trial import (
     small_orders,
     told,
 )
-
-IN_ONE_ROW = [5, 3, 3, 0, 0, 4, 4, 1, 1, 2]
 
 
 def share_by_trial(found, x, y):
@@ -86,9 +86,8 @@ class Corners(unittest.TestCase):
                 self.assertEqual(likely(n, x, y, []), [0, 1, 2], (n, x, y))
 
     def test_all_in_one_row(self):
-        row = [5, 3, 0, 4, 1, 2]
         for x, y in all_pairs(6):
-            share = [0, 1, 1] if row.index(x) < row.index(y) else [0, 0, 1]
+            share = [0, 1, 1] if ONE_ROW.index(x) < ONE_ROW.index(y) else [0, 0, 1]
             self.assertEqual(likely(6, x, y, IN_ONE_ROW), share, (x, y))
 
     def test_x_ahead_of_y_for_sure_by_a_pair(self):

@@ -3,9 +3,17 @@
 import unittest
 
 from likelyorders.chances import first, nth, rows
-from tests.trial import MOST, NONE_THERE, has_ring, must_be_ahead, ordinary_orders, rows_by_trial, small_orders, told
-
-IN_ONE_ROW = [5, 3, 3, 0, 0, 4, 4, 1, 1, 2]
+from tests.trial import (
+    IN_ONE_ROW,
+    MOST,
+    NONE_THERE,
+    has_ring,
+    must_be_ahead,
+    ordinary_orders,
+    rows_by_trial,
+    small_orders,
+    told,
+)
 
 
 class OrdinaryOrders(unittest.TestCase):

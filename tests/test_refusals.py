@@ -2,10 +2,10 @@
 
 import unittest
 
-from likelyorders.chances import first, likely, nth, rows
+from likelyorders.chances import both, first, likely, nth, places, rows
 from tests.trial import MOST, REFUSED, has_ring, orders_to_try, rows_by_trial, told
 
-IN_ONE_ROW = told([(one, other) for one in range(6) for other in range(one + 1, 6)])
+ALL_THAT_RISE = told([(one, other) for one in range(6) for other in range(one + 1, 6)])
 
 # Each call with the numbers that stand between n and o: such as are well, and such as would be refused in turn.
 CALLS = (
@@ -20,6 +20,17 @@ CALLS = (
     (likely, (6, 0)),
     (likely, (0, MOST)),
     (likely, (MOST, MOST)),
+    (both, (0, 1, 2)),
+    (both, (2, 1, 0)),
+    (both, (0, 0, 1)),
+    (both, (0, 1, 0)),
+    (both, (1, 0, 0)),
+    (both, (6, 1, 2)),
+    (both, (0, MOST, 2)),
+    (both, (0, 1, 6)),
+    (places, (0,)),
+    (places, (6,)),
+    (places, (MOST,)),
 )
 
 
@@ -93,6 +104,12 @@ class TheLongest(unittest.TestCase):
         self.assertEqual(nth(n, len(found) - 1, o), [n] + list(found[-1]))
         self.assertEqual(likely(n, o[0], o[1], o), [0, 1, 1])
         self.assertEqual(likely(n, o[-1], o[-2], o), [0, 0, 1])
+        at_each = [[row[place] for row in found].count(o[0]) for place in range(n)]
+        self.assertEqual(places(n, o[0], o), [n] + at_each)
+        if n > 2:
+            third = min(set(range(n)) - {o[0], o[1]})
+            ahead = [row for row in found if row.index(o[0]) < row.index(third)]
+            self.assertEqual(both(n, o[0], o[1], third, o), [len(ahead), len(found), len(ahead), len(found)])
 
     def assert_refused(self, n, o):
         self.assertEqual(len(o), 40)
@@ -103,7 +120,7 @@ class TheLongest(unittest.TestCase):
         self.assert_answered(2, [1, 0] * 20)
         self.assert_answered(6, [4, 1] * 20)
         self.assert_answered(6, [5, 0, 3, 2] * 10)
-        self.assert_answered(6, IN_ONE_ROW + IN_ONE_ROW[:10])
+        self.assert_answered(6, ALL_THAT_RISE + ALL_THAT_RISE[:10])
         self.assert_answered(6, [0, 1] * 19 + [5, 2])
         self.assert_answered(6, [5, 2] + [0, 1] * 19)
 
@@ -112,7 +129,7 @@ class TheLongest(unittest.TestCase):
         for bad in ([1, 0], [2, 2], [0, 6], [6, 0], [MOST, 1], [1, MOST]):
             self.assert_refused(6, well + bad)
             self.assert_refused(6, bad + well)
-        self.assert_refused(6, IN_ONE_ROW + [0, 1] * 4 + [5, 0])
+        self.assert_refused(6, ALL_THAT_RISE + [0, 1] * 4 + [5, 0])
         self.assert_refused(1, [0, 0] * 20)
         self.assert_refused(0, well + [0, 1])
         self.assert_refused(7, well + [0, 1])

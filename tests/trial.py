@@ -13,6 +13,10 @@ def told(pairs):
     return [thing for pair in pairs for thing in pair]
 
 
+ONE_ROW = [5, 3, 0, 4, 1, 2]
+IN_ONE_ROW = told(zip(ONE_ROW, ONE_ROW[1:]))
+
+
 def pairs_of(o):
     return list(zip(o[0::2], o[1::2]))
 
