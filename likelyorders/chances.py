@@ -65,6 +65,29 @@ def places(n, x, o):
     return [n] + [count_at(found, x, place) for place in range(n)]
 
 
+def height(n, x, o):
+    """0, then at which place, counted from 1, x is in the mean, a fraction."""
+    found = find_rows(n, o)
+    if len(found) == 0:
+        return [ORDER_REFUSED]
+    if not are_different_things(n, [x]):
+        return [THING_REFUSED]
+    places_together = sum([row.index(x) + 1 for row in found])
+    return [0] + in_lowest_terms(places_together, len(found))
+
+
+def ahead(n, x, o):
+    """How many things must come ahead of x, then these, rising."""
+    found = find_rows(n, o)
+    if len(found) == 0:
+        return [ORDER_REFUSED]
+    if not are_different_things(n, [x]):
+        return [THING_REFUSED]
+    # What no pair and no several pairs put ahead of x is behind it in some row.
+    things = [thing for thing in range(n) if len(with_ahead(found, thing, x)) == len(found)]
+    return [len(things)] + things
+
+
 def find_rows(n, o):
     """All rows that keep to o, the lesser first; none where n or o is to be refused."""
     if n < 1 or n > MOST_THINGS or not are_pairs(n, o):

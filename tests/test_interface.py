@@ -9,7 +9,7 @@ import unittest
 
 import likelyorders
 from likelyorders import chances
-from likelyorders.chances import both, first, likely, nth, places, rows
+from likelyorders.chances import ahead, both, first, height, likely, nth, places, rows
 from tests.trial import MOST, Untouchable
 
 ORDERS = (
@@ -45,6 +45,24 @@ CALLS = (
     (places, (0,)),
     (places, (2,)),
     (places, (MOST,)),
+    (height, (0,)),
+    (height, (2,)),
+    (height, (MOST,)),
+    (ahead, (0,)),
+    (ahead, (1,)),
+    (ahead, (MOST,)),
+)
+
+# Each call with its arguments in their turn.
+TURNS = (
+    (rows, "no"),
+    (first, "no"),
+    (nth, "nko"),
+    (likely, "nxyo"),
+    (both, "nxyzo"),
+    (places, "nxo"),
+    (height, "nxo"),
+    (ahead, "nxo"),
 )
 
 HANDED_IN = [(call, (n,) + numbers, o) for call, numbers in CALLS for n, o in ORDERS]
@@ -74,10 +92,11 @@ class HandedIn(unittest.TestCase):
         self.assertEqual(likely(n=3, x=2, y=1, o=[2, 0]), [0, 2, 3])
         self.assertEqual(both(n=3, x=2, y=1, z=0, o=[2, 0]), [2, 2, 3, 3])
         self.assertEqual(places(n=3, x=2, o=[2, 0]), [3, 2, 1, 0])
+        self.assertEqual(height(n=3, x=2, o=[2, 0]), [0, 4, 3])
+        self.assertEqual(ahead(n=3, x=0, o=[2, 0]), [1, 2])
 
     def test_arguments_stand_in_their_turn(self):
-        turns = ((rows, "no"), (first, "no"), (nth, "nko"), (likely, "nxyo"), (both, "nxyzo"), (places, "nxo"))
-        for call, names in turns:
+        for call, names in TURNS:
             self.assertEqual(list(inspect.signature(call).parameters), list(names))
 
 
@@ -105,10 +124,12 @@ class NothingIsKept(unittest.TestCase):
         self.assertEqual((rows(3, o), first(3, o)), ([3], [3, 0, 1, 2]))
         self.assertEqual((nth(3, 1, o), likely(3, 2, 0, o)), ([3, 0, 2, 1], [0, 1, 3]))
         self.assertEqual((both(3, 2, 0, 1, o), places(3, 2, o)), ([1, 1, 2, 3], [3, 1, 1, 1]))
+        self.assertEqual((height(3, 0, o), ahead(3, 0, o)), ([0, 4, 3], [0]))
         o.extend([2, 0])
         self.assertEqual((rows(3, o), first(3, o)), ([1], [3, 2, 0, 1]))
         self.assertEqual((nth(3, 1, o), likely(3, 2, 0, o)), ([-33], [0, 1, 1]))
         self.assertEqual((both(3, 2, 0, 1, o), places(3, 2, o)), ([1, 1, 1, 1], [3, 1, 0, 0]))
+        self.assertEqual((height(3, 0, o), ahead(3, 0, o)), ([0, 2, 1], [1, 2]))
 
     def test_changing_an_answer_changes_no_later_one(self):
         for call, numbers, o in HANDED_IN:
@@ -145,7 +166,7 @@ class NothingElseIsDone(unittest.TestCase):
             self.assertEqual(used - bound - ALLOWED_NAMES, set())
 
     def test_the_calls_are_functions_of_chances(self):
-        for call in (rows, first, nth, likely, both, places):
+        for call, names in TURNS:
             self.assertIs(getattr(chances, call.__name__), call)
             self.assertEqual(call.__module__, "likelyorders.chances")
 

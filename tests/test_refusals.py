@@ -1,9 +1,10 @@
 """-22, alone in the list, where n or o isn't as it must be; and the longest o, refused or not."""
 
 import unittest
+from fractions import Fraction
 
-from likelyorders.chances import both, first, likely, nth, places, rows
-from tests.trial import MOST, REFUSED, has_ring, orders_to_try, rows_by_trial, told
+from likelyorders.chances import ahead, both, first, height, likely, nth, places, rows
+from tests.trial import MOST, REFUSED, has_ring, must_be_ahead, orders_to_try, rows_by_trial, told
 
 ALL_THAT_RISE = told([(one, other) for one in range(6) for other in range(one + 1, 6)])
 
@@ -31,6 +32,12 @@ CALLS = (
     (places, (0,)),
     (places, (6,)),
     (places, (MOST,)),
+    (height, (0,)),
+    (height, (6,)),
+    (height, (MOST,)),
+    (ahead, (0,)),
+    (ahead, (6,)),
+    (ahead, (MOST,)),
 )
 
 
@@ -106,10 +113,14 @@ class TheLongest(unittest.TestCase):
         self.assertEqual(likely(n, o[-1], o[-2], o), [0, 0, 1])
         at_each = [[row[place] for row in found].count(o[0]) for place in range(n)]
         self.assertEqual(places(n, o[0], o), [n] + at_each)
+        mean = Fraction(sum(row.index(o[0]) + 1 for row in found), len(found))
+        self.assertEqual(height(n, o[0], o), [0, mean.numerator, mean.denominator])
+        things = sorted(one for one, other in must_be_ahead(n, o) if other == o[1])
+        self.assertEqual(ahead(n, o[1], o), [len(things)] + things)
         if n > 2:
             third = min(set(range(n)) - {o[0], o[1]})
-            ahead = [row for row in found if row.index(o[0]) < row.index(third)]
-            self.assertEqual(both(n, o[0], o[1], third, o), [len(ahead), len(found), len(ahead), len(found)])
+            left = [row for row in found if row.index(o[0]) < row.index(third)]
+            self.assertEqual(both(n, o[0], o[1], third, o), [len(left), len(found), len(left), len(found)])
 
     def assert_refused(self, n, o):
         self.assertEqual(len(o), 40)
