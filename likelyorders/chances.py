@@ -88,6 +88,18 @@ def ahead(n, x, o):
     return [len(things)] + things
 
 
+def split(n, o):
+    """0, then the two things nearest to a half, and how likely the lesser is ahead, a fraction."""
+    found = find_rows(n, o)
+    if len(found) == 0:
+        return [ORDER_REFUSED]
+    nearest = nearest_to_half(n, found)
+    if len(nearest) == 0:
+        return [NONE_THERE]
+    lesser_ahead = with_ahead(found, nearest[0], nearest[1])
+    return [0] + nearest + in_lowest_terms(len(lesser_ahead), len(found))
+
+
 def find_rows(n, o):
     """All rows that keep to o, the lesser first; none where n or o is to be refused."""
     if n < 1 or n > MOST_THINGS or not are_pairs(n, o):
@@ -146,6 +158,25 @@ def with_ahead(found, x, y):
 def count_at(found, x, place):
     """In how many of the found rows x is at that place."""
     return len([row for row in found if row[place] == x])
+
+
+def nearest_to_half(n, found):
+    """The two things nearest to a half, the lesser first; none where of every two one must come ahead."""
+    nearest = []
+    # Two of which one must come ahead are just so far off, all others are nearer.
+    least = len(found)
+    for lesser in range(n):
+        for greater in range(lesser + 1, n):
+            off = off_half(found, lesser, greater)
+            if off < least:
+                nearest = [lesser, greater]
+                least = off
+    return nearest
+
+
+def off_half(found, x, y):
+    """How far it is from a half how likely x is ahead of y; times twice the found rows, so that it is whole."""
+    return abs(2 * len(with_ahead(found, x, y)) - len(found))
 
 
 def in_lowest_terms(above, below):

@@ -6,10 +6,11 @@ import inspect
 import io
 import pathlib
 import unittest
+from unittest import mock
 
 import likelyorders
 from likelyorders import chances
-from likelyorders.chances import ahead, both, first, height, likely, nth, places, rows
+from likelyorders.chances import ahead, both, first, height, likely, nth, places, rows, split
 from tests.trial import MOST, Untouchable
 
 ORDERS = (
@@ -51,6 +52,7 @@ CALLS = (
     (ahead, (0,)),
     (ahead, (1,)),
     (ahead, (MOST,)),
+    (split, ()),
 )
 
 # Each call with its arguments in their turn.
@@ -63,6 +65,7 @@ TURNS = (
     (places, "nxo"),
     (height, "nxo"),
     (ahead, "nxo"),
+    (split, "no"),
 )
 
 HANDED_IN = [(call, (n,) + numbers, o) for call, numbers in CALLS for n, o in ORDERS]
@@ -94,6 +97,7 @@ class HandedIn(unittest.TestCase):
         self.assertEqual(places(n=3, x=2, o=[2, 0]), [3, 2, 1, 0])
         self.assertEqual(height(n=3, x=2, o=[2, 0]), [0, 4, 3])
         self.assertEqual(ahead(n=3, x=0, o=[2, 0]), [1, 2])
+        self.assertEqual(split(n=3, o=[2, 0]), [0, 0, 1, 1, 3])
 
     def test_arguments_stand_in_their_turn(self):
         for call, names in TURNS:
@@ -125,11 +129,13 @@ class NothingIsKept(unittest.TestCase):
         self.assertEqual((nth(3, 1, o), likely(3, 2, 0, o)), ([3, 0, 2, 1], [0, 1, 3]))
         self.assertEqual((both(3, 2, 0, 1, o), places(3, 2, o)), ([1, 1, 2, 3], [3, 1, 1, 1]))
         self.assertEqual((height(3, 0, o), ahead(3, 0, o)), ([0, 4, 3], [0]))
+        self.assertEqual(split(3, o), [0, 0, 2, 2, 3])
         o.extend([2, 0])
         self.assertEqual((rows(3, o), first(3, o)), ([1], [3, 2, 0, 1]))
         self.assertEqual((nth(3, 1, o), likely(3, 2, 0, o)), ([-33], [0, 1, 1]))
         self.assertEqual((both(3, 2, 0, 1, o), places(3, 2, o)), ([1, 1, 1, 1], [3, 1, 0, 0]))
         self.assertEqual((height(3, 0, o), ahead(3, 0, o)), ([0, 2, 1], [1, 2]))
+        self.assertEqual(split(3, o), [-33])
 
     def test_changing_an_answer_changes_no_later_one(self):
         for call, numbers, o in HANDED_IN:
@@ -150,6 +156,17 @@ class NothingElseIsDone(unittest.TestCase):
             for call, numbers, o in HANDED_IN:
                 call(*numbers, o)
         self.assertEqual((out.getvalue(), err.getvalue()), ("", ""))
+
+    def test_nothing_is_read_or_imported_by_a_call(self):
+        refuse = mock.Mock(side_effect=AssertionError("something was read or imported"))
+        with contextlib.ExitStack() as stack:
+            for name in ("builtins.open", "builtins.input", "builtins.__import__"):
+                stack.enter_context(mock.patch(name, refuse))
+            # None has nothing to read from, so any reading fails.
+            stack.enter_context(mock.patch("sys.stdin", None))
+            for call, numbers, o in HANDED_IN:
+                call(*numbers, o)
+        refuse.assert_not_called()
 
     def test_nothing_is_imported(self):
         for tree in self.sources():

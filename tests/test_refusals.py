@@ -3,8 +3,17 @@
 import unittest
 from fractions import Fraction
 
-from likelyorders.chances import ahead, both, first, height, likely, nth, places, rows
-from tests.trial import MOST, REFUSED, has_ring, must_be_ahead, orders_to_try, rows_by_trial, told
+from likelyorders.chances import ahead, both, first, height, likely, nth, places, rows, split
+from tests.trial import (
+    MOST,
+    REFUSED,
+    has_ring,
+    must_be_ahead,
+    nearest_by_trial,
+    orders_to_try,
+    rows_by_trial,
+    told,
+)
 
 ALL_THAT_RISE = told([(one, other) for one in range(6) for other in range(one + 1, 6)])
 
@@ -38,6 +47,7 @@ CALLS = (
     (ahead, (0,)),
     (ahead, (6,)),
     (ahead, (MOST,)),
+    (split, ()),
 )
 
 
@@ -117,6 +127,7 @@ class TheLongest(unittest.TestCase):
         self.assertEqual(height(n, o[0], o), [0, mean.numerator, mean.denominator])
         things = sorted(one for one, other in must_be_ahead(n, o) if other == o[1])
         self.assertEqual(ahead(n, o[1], o), [len(things)] + things)
+        self.assertEqual(split(n, o), nearest_by_trial(n, o))
         if n > 2:
             third = min(set(range(n)) - {o[0], o[1]})
             left = [row for row in found if row.index(o[0]) < row.index(third)]

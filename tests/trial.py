@@ -1,5 +1,6 @@
 """Rows found in another way than the program's, and orders to try: what the tests hold the answers against."""
 
+from fractions import Fraction
 from itertools import combinations, permutations
 
 REFUSED = [-22]
@@ -39,6 +40,20 @@ def must_be_ahead(n, o):
                 if (one, between) in reached and (between, other) in reached:
                     reached.add((one, other))
     return reached
+
+
+def nearest_by_trial(n, o):
+    """What split is to answer: of all two of which neither must come ahead the first by how far they are off."""
+    found = rows_by_trial(n, o)
+    sure = must_be_ahead(n, o)
+    choices = []
+    for lesser, greater in combinations(range(n), 2):
+        if (lesser, greater) not in sure and (greater, lesser) not in sure:
+            share = Fraction(sum(greater in row[row.index(lesser) :] for row in found), len(found))
+            choices.append((abs(share - Fraction(1, 2)), lesser, greater, share.numerator, share.denominator))
+    if not choices:
+        return NONE_THERE
+    return [0] + list(min(choices)[1:])
 
 
 def has_ring(n, o):
